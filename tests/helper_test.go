@@ -4,6 +4,7 @@ import (
 	"math"
 	"slices"
 	"testing"
+	"unsafe"
 )
 
 const spare = 32
@@ -28,8 +29,10 @@ func guard[T comparable](l []T, filler T) guarded[T] {
 
 func (g guarded[T]) unchanged(t *testing.T, what string) {
 	t.Helper()
-	if now := g.arg[:cap(g.arg)]; !slices.Equal(now, g.before) {
-		t.Errorf("%s: the argument or its spare capacity became %v, was %v", what, now, g.before)
+	for i, now := range g.arg[:cap(g.arg)] {
+		if now != g.before[i] {
+			t.Fatalf("%s: element %d of an argument of %d, or of its spare capacity, became %v, was %v", what, i, len(g.arg), now, g.before[i])
+		}
 	}
 }
 
@@ -39,4 +42,14 @@ func scribble[T any](l []T, v T) {
 	for i := range l {
 		l[i] = v
 	}
+}
+
+// touch reports whether two slices, with the spare capacity behind them, have memory in common.
+func touch(a []byte, b []byte) bool {
+	if cap(a) == 0 || cap(b) == 0 {
+		return false
+	}
+	startA := uintptr(unsafe.Pointer(unsafe.SliceData(a)))
+	startB := uintptr(unsafe.Pointer(unsafe.SliceData(b)))
+	return startA < startB+uintptr(cap(b)) && startB < startA+uintptr(cap(a))
 }
