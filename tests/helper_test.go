@@ -45,11 +45,39 @@ func scribble[T any](l []T, v T) {
 }
 
 // touch reports whether two slices, with the spare capacity behind them, have memory in common.
-func touch(a []byte, b []byte) bool {
+func touch[T any](a []T, b []T) bool {
 	if cap(a) == 0 || cap(b) == 0 {
 		return false
 	}
-	startA := uintptr(unsafe.Pointer(unsafe.SliceData(a)))
-	startB := uintptr(unsafe.Pointer(unsafe.SliceData(b)))
-	return startA < startB+uintptr(cap(b)) && startB < startA+uintptr(cap(a))
+	startA, sizeA := memoryOf(a)
+	startB, sizeB := memoryOf(b)
+	return startA < startB+sizeB && startB < startA+sizeA
+}
+
+func memoryOf[T any](l []T) (uintptr, uintptr) {
+	var one T
+	return uintptr(unsafe.Pointer(unsafe.SliceData(l))), uintptr(cap(l)) * unsafe.Sizeof(one)
+}
+
+// apart checks that no two of the results and arguments share memory, and that the arguments stay as they were, even when the results are overwritten with mess.
+func apart[T comparable](t *testing.T, what string, mess T, results [][]T, args ...guarded[T]) {
+	t.Helper()
+	for i, got := range results {
+		for _, other := range results[:i] {
+			if touch(got, other) {
+				t.Errorf("%s: two results share memory", what)
+			}
+		}
+		for _, arg := range args {
+			if touch(got, arg.arg) {
+				t.Errorf("%s: a result shares memory with an argument", what)
+			}
+		}
+	}
+	for _, got := range results {
+		scribble(got, mess)
+	}
+	for _, arg := range args {
+		arg.unchanged(t, what)
+	}
 }

@@ -430,7 +430,7 @@ func TestP10MsgPutResultsAreNewMemory(t *testing.T) {
 			b := guard(front, 77)
 			first, _ := impl.MsgPut(b.arg, m)
 			second, _ := impl.MsgPut(b.arg, m)
-			apart(t, "MsgPut", [][]byte{first, second}, b)
+			apart(t, "MsgPut", 99, [][]byte{first, second}, b)
 		}
 	}
 	empty := guard([]byte{}, 77)
